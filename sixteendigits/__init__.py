@@ -1,0 +1,1 @@
+"""Decimal numbers of sixteen digits; the calls are in sixteendigits.decimals."""

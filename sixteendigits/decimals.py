@@ -1,0 +1,26 @@
+"""The calls: each takes numbers by their 64 bits and gives back a list of whole numbers."""
+
+from sixteendigits.arithmetic import added, divided, multiplied, square_root, with_sign_turned
+from sixteendigits.bits import bits_of, nan, number_of
+
+
+def op(op, a, b):
+    """The sum (0), difference (1), product (2) or quotient (3) of a and b, rounded; else NaN."""
+    return [bits_of(computed(op, number_of(a), number_of(b)))]
+
+
+def root(a):
+    """The square root of a, rounded."""
+    return [bits_of(square_root(number_of(a)))]
+
+
+def computed(which, a, b):
+    if which == 0:
+        return added(a, b)
+    if which == 1:
+        return added(a, with_sign_turned(b))
+    if which == 2:
+        return multiplied(a, b)
+    if which == 3:
+        return divided(a, b)
+    return nan()

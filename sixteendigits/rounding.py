@@ -1,0 +1,60 @@
+"""Rounding: from an exact value to the number that answers it."""
+
+from sixteendigits.bits import HIGHEST_EXPONENT, LOWEST_EXPONENT, finite, infinity
+
+DIGITS = 16
+
+
+def ten_to(n):
+    power = 1
+    for step in range(n):
+        power = power * 10
+    return power
+
+
+def digit_count(n):
+    return len(str(n))
+
+
+def between(low, n, high):
+    return max(low, min(n, high))
+
+
+def rounded(minus, coefficient, exponent, wanted):
+    """The number for coefficient x 10^exponent, of any length, with the exponent nearest to the wanted one."""
+    if coefficient == 0:
+        return finite(minus, 0, between(LOWEST_EXPONENT, wanted, HIGHEST_EXPONENT))
+    while coefficient % 10 == 0:
+        coefficient = coefficient // 10
+        exponent = exponent + 1
+    # Zeros behind the coefficient lower the exponent without changing the value, while sixteen digits have room.
+    lowest = max(LOWEST_EXPONENT, exponent - (DIGITS - digit_count(coefficient)))
+    highest = min(HIGHEST_EXPONENT, exponent)
+    if lowest > highest:
+        return nearest(minus, coefficient, exponent)
+    chosen = between(lowest, wanted, highest)
+    return finite(minus, coefficient * ten_to(exponent - chosen), chosen)
+
+
+def nearest(minus, coefficient, exponent):
+    """The number nearest to a value that no number has exactly."""
+    # None is dropped only where the value is past the largest: the exponent alone tells that below.
+    drop = max(0, digit_count(coefficient) - DIGITS, LOWEST_EXPONENT - exponent)
+    kept = without_digits(coefficient, drop)
+    exponent = exponent + drop
+    if kept == 10 ** 16:
+        kept = 10 ** 15
+        exponent = exponent + 1
+    if exponent > HIGHEST_EXPONENT:
+        return infinity(minus)
+    return finite(minus, kept, exponent)
+
+
+def without_digits(coefficient, drop):
+    """The whole number nearest to coefficient over 10^drop, of two the even one."""
+    scale = ten_to(drop)
+    kept = coefficient // scale
+    twice_the_rest = coefficient % scale * 2
+    if twice_the_rest > scale or (twice_the_rest == scale and kept % 2 == 1):
+        return kept + 1
+    return kept
