@@ -28,8 +28,8 @@ def added_with_infinity(a, b):
     return infinity(a.minus)
 
 
+# The exponent is not above a's own, so that nothing of a is lost.
 def signed_coefficient(a, exponent):
-    """What a's value is at an exponent that is not above a's own."""
     size = a.coefficient * ten_to(a.exponent - exponent)
     return -size if a.minus == 1 else size
 
@@ -61,8 +61,8 @@ def divided(a, b):
     return rounded(minus, digits, wanted - 41, wanted)
 
 
+# One digit more, and not 0 where something was left over, is enough for rounding to see that the digits aren't exact.
 def with_rest_marked(digits, rest):
-    """One digit more, 1 where something was left over: enough for rounding to see that it isn't exact."""
     return digits * 10 + (1 if rest > 0 else 0)
 
 
@@ -84,8 +84,7 @@ def square_root(a):
 
 
 def whole_root(n):
-    """The greatest whole number whose square is not above n, for n above 0."""
-    # Newton's steps fall toward the root as long as they start above it.
+    # Newton's steps fall toward the root from above; the first whose square is not above n is the root rounded down.
     guess = ten_to((digit_count(n) + 1) // 2)
     while guess * guess > n:
         guess = (guess + n // guess) // 2

@@ -9,9 +9,8 @@ LOWEST_EXPONENT = -398
 HIGHEST_EXPONENT = 369
 
 
+# minus is 1 or 0, as bit 63 is, so that signs combine as bits do. Only the finite have a coefficient and an exponent.
 class Number:
-    """A finite number, an infinity or NaN; minus is 1 where the sign is minus, else 0."""
-
     def __init__(self, kind, minus, coefficient, exponent):
         self.kind = kind
         self.minus = minus
@@ -36,7 +35,6 @@ def is_zero(number):
 
 
 def number_of(bits):
-    """The number that the bits tell."""
     minus = bits >> 63
     if (bits >> 61) & 3 != 3:
         return finite(minus, bits % 2 ** 53, exponent_of((bits >> 53) % 2 ** 10))
@@ -56,7 +54,6 @@ def exponent_of(field):
 
 
 def bits_of(number):
-    """The one row of bits that answers the number."""
     if number.kind == NAN:
         return 31 << 58
     sign = number.minus << 63

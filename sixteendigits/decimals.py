@@ -5,12 +5,10 @@ from sixteendigits.bits import bits_of, nan, number_of
 
 
 def op(op, a, b):
-    """The sum (0), difference (1), product (2) or quotient (3) of a and b, rounded; else NaN."""
     return [bits_of(computed(op, number_of(a), number_of(b)))]
 
 
 def root(a):
-    """The square root of a, rounded."""
     return [bits_of(square_root(number_of(a)))]
 
 

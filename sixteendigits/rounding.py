@@ -20,8 +20,8 @@ def between(low, n, high):
     return max(low, min(n, high))
 
 
+# The coefficient may be of any length and the exponent any: what is rounded here once must not be rounded before.
 def rounded(minus, coefficient, exponent, wanted):
-    """The number for coefficient x 10^exponent, of any length, with the exponent nearest to the wanted one."""
     if coefficient == 0:
         return finite(minus, 0, between(LOWEST_EXPONENT, wanted, HIGHEST_EXPONENT))
     while coefficient % 10 == 0:
@@ -36,9 +36,9 @@ def rounded(minus, coefficient, exponent, wanted):
     return finite(minus, coefficient * ten_to(exponent - chosen), chosen)
 
 
+# Only for a value that no number has exactly: there the wanted exponent has no say.
 def nearest(minus, coefficient, exponent):
-    """The number nearest to a value that no number has exactly."""
-    # None is dropped only where the value is past the largest: the exponent alone tells that below.
+    # Where there is nothing to drop, the value is past the largest, and the exponent alone tells so below.
     drop = max(0, digit_count(coefficient) - DIGITS, LOWEST_EXPONENT - exponent)
     kept = without_digits(coefficient, drop)
     exponent = exponent + drop
@@ -51,7 +51,6 @@ def nearest(minus, coefficient, exponent):
 
 
 def without_digits(coefficient, drop):
-    """The whole number nearest to coefficient over 10^drop, of two the even one."""
     scale = ten_to(drop)
     kept = coefficient // scale
     twice_the_rest = coefficient % scale * 2
