@@ -2,6 +2,8 @@
 
 from sixteendigits.arithmetic import added, divided, multiplied, square_root, with_sign_turned
 from sixteendigits.bits import bits_of, nan, number_of
+from sixteendigits.comparing import compared
+from sixteendigits.placing import with_exponent
 
 
 def op(op, a, b):
@@ -10,6 +12,14 @@ def op(op, a, b):
 
 def root(a):
     return [bits_of(square_root(number_of(a)))]
+
+
+def order(a, b):
+    return [compared(number_of(a), number_of(b))]
+
+
+def placed(a, e):
+    return [bits_of(with_exponent(number_of(a), e))]
 
 
 def computed(which, a, b):

@@ -12,21 +12,40 @@ MINUS_INFINITY = MINUS + INFINITY
 CONTEXT = decimal.Context(prec=16, rounding=decimal.ROUND_HALF_EVEN, Emin=-383, Emax=384, clamp=1, traps=[])
 
 
+def first_form(coefficient, exponent):
+    return (exponent + 398) * 2 ** 53 + coefficient
+
+
+def second_form(coefficient, exponent):
+    return 3 * 2 ** 61 + (exponent + 398) * 2 ** 51 + coefficient - 2 ** 53
+
+
 def number(coefficient, exponent=0, minus=False):
     """The bits of a number; a coefficient below 0 stands for a minus."""
     minus = minus or coefficient < 0
     size = abs(coefficient)
     if not (size <= LARGEST and -398 <= exponent <= 369):
         raise ValueError((coefficient, exponent))
-    if size < 2 ** 53:
-        bits = (exponent + 398) * 2 ** 53 + size
-    else:
-        bits = 3 * 2 ** 61 + (exponent + 398) * 2 ** 51 + size - 2 ** 53
+    bits = first_form(size, exponent) if size < 2 ** 53 else second_form(size, exponent)
     return bits + MINUS if minus else bits
 
 
 def zero(exponent=0, minus=False):
     return number(0, exponent, minus)
+
+
+def is_allowed(bits):
+    """Whether "Its 64 bits" allows them in an answer."""
+    if not 0 <= bits < 2 ** 64:
+        return False
+    if bits == NAN:
+        return True
+    bits %= MINUS
+    if bits == INFINITY:
+        return True
+    if bits >> 61 != 3:
+        return True
+    return bits >> 59 != 15 and bits % 2 ** 51 + 2 ** 53 <= LARGEST
 
 
 def turned(bits):
@@ -76,6 +95,23 @@ def second_opinion(op, a, b):
 
 def second_opinion_on_root(a):
     return of_decimal(CONTEXT.sqrt(as_decimal(a)))
+
+
+def second_opinion_on_order(a, b):
+    x, y = as_decimal(a), as_decimal(b)
+    if x.is_nan() or y.is_nan():
+        return 2
+    return (x > y) - (x < y)
+
+
+def second_opinion_on_placed(a, e):
+    """For finite numbers and exponents alone: of others Python's decimals have other views."""
+    return of_decimal(CONTEXT.quantize(as_decimal(a), decimal.Decimal((0, (1,), e))))
+
+
+def is_list_of_one_int(answer):
+    """True and False, which are ints of a kind, are not meant."""
+    return type(answer) is list and len(answer) == 1 and type(answer[0]) is int
 
 
 def drawn(source, near=False):

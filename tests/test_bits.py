@@ -4,7 +4,8 @@ import random
 import unittest
 
 from sixteendigits.decimals import op, root
-from tests.helper import INFINITY, LARGEST, MINUS, MINUS_INFINITY, NAN, number, shown, zero
+from tests.helper import (INFINITY, LARGEST, MINUS, MINUS_INFINITY, NAN, first_form, is_allowed, number, second_form,
+                          shown, zero)
 
 # By each of these calls a number is answered as itself, whatever its exponent and its sign.
 SAME_AGAIN = (
@@ -15,28 +16,6 @@ SAME_AGAIN = (
     lambda a: op(2, number(1), a),
     lambda a: op(3, a, number(1)),
 )
-
-
-def first_form(coefficient, exponent):
-    return (exponent + 398) * 2 ** 53 + coefficient
-
-
-def second_form(coefficient, exponent):
-    return 3 * 2 ** 61 + (exponent + 398) * 2 ** 51 + coefficient - 2 ** 53
-
-
-def is_allowed(bits):
-    """Whether "Its 64 bits" allows them in an answer."""
-    if not 0 <= bits < 2 ** 64:
-        return False
-    if bits == NAN:
-        return True
-    bits %= MINUS
-    if bits == INFINITY:
-        return True
-    if bits >> 61 != 3:
-        return True
-    return bits >> 59 != 15 and bits % 2 ** 51 + 2 ** 53 <= LARGEST
 
 
 class HandedIn(unittest.TestCase):
