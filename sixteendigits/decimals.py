@@ -4,6 +4,7 @@ from sixteendigits.arithmetic import added, divided, multiplied, square_root, wi
 from sixteendigits.bits import bits_of, nan, number_of
 from sixteendigits.comparing import compared
 from sixteendigits.placing import with_exponent
+from sixteendigits.wholes import number_of_whole, whole_part
 
 
 def op(op, a, b):
@@ -20,6 +21,14 @@ def order(a, b):
 
 def placed(a, e):
     return [bits_of(with_exponent(number_of(a), e))]
+
+
+def whole(a):
+    return [whole_part(number_of(a))]
+
+
+def from_whole(n):
+    return [bits_of(number_of_whole(n))]
 
 
 def computed(which, a, b):

@@ -109,6 +109,17 @@ def second_opinion_on_placed(a, e):
     return of_decimal(CONTEXT.quantize(as_decimal(a), decimal.Decimal((0, (1,), e))))
 
 
+def second_opinion_on_whole(a):
+    value = as_decimal(a)
+    if value.is_finite() and -2 ** 63 <= int(value) < 2 ** 63:
+        return int(value)
+    return -2 ** 63
+
+
+def second_opinion_on_from_whole(n):
+    return of_decimal(CONTEXT.create_decimal(n))
+
+
 def is_list_of_one_int(answer):
     """True and False, which are ints of a kind, are not meant."""
     return type(answer) is list and len(answer) == 1 and type(answer[0]) is int
