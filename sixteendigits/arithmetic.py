@@ -3,6 +3,8 @@
 from sixteendigits.bits import FINITE, INFINITE, NAN, Number, finite, infinity, is_zero, nan
 from sixteendigits.rounding import digit_count, rounded, ten_to
 
+MOST_ADDED_UP = 1000
+
 
 def with_sign_turned(a):
     return Number(a.kind, 1 - a.minus, a.coefficient, a.exponent)
@@ -26,6 +28,18 @@ def added_with_infinity(a, b):
     if b.kind == INFINITE and a.minus != b.minus:
         return nan()
     return infinity(a.minus)
+
+
+def added_up(numbers):
+    if len(numbers) > MOST_ADDED_UP:
+        return nan()
+    if len(numbers) == 0:
+        return finite(0, 0, 0)
+    # Begun with the first and not with 0, which would bring its exponent and its sign into the sum.
+    so_far = numbers[0]
+    for number in numbers[1:]:
+        so_far = added(so_far, number)
+    return so_far
 
 
 # The exponent is not above a's own, so that nothing of a is lost.

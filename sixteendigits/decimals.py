@@ -1,8 +1,9 @@
 """The calls: each takes numbers by their 64 bits and gives back a list of whole numbers."""
 
-from sixteendigits.arithmetic import added, divided, multiplied, square_root, with_sign_turned
+from sixteendigits.arithmetic import added, added_up, divided, multiplied, square_root, with_sign_turned
 from sixteendigits.bits import bits_of, nan, number_of
 from sixteendigits.comparing import compared
+from sixteendigits.doubles import double_of
 from sixteendigits.placing import with_exponent
 from sixteendigits.wholes import number_of_whole, whole_part
 
@@ -29,6 +30,14 @@ def whole(a):
 
 def from_whole(n):
     return [bits_of(number_of_whole(n))]
+
+
+def double(a):
+    return [double_of(number_of(a))]
+
+
+def total(numbers):
+    return [bits_of(added_up([number_of(bits) for bits in numbers]))]
 
 
 def computed(which, a, b):

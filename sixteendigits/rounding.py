@@ -51,9 +51,12 @@ def nearest(minus, coefficient, exponent):
 
 
 def without_digits(coefficient, drop):
-    scale = ten_to(drop)
-    kept = coefficient // scale
-    twice_the_rest = coefficient % scale * 2
-    if twice_the_rest > scale or (twice_the_rest == scale and kept % 2 == 1):
+    return nearest_whole(coefficient, ten_to(drop))
+
+
+def nearest_whole(numerator, denominator):
+    kept = numerator // denominator
+    twice_the_rest = numerator % denominator * 2
+    if twice_the_rest > denominator or (twice_the_rest == denominator and kept % 2 == 1):
         return kept + 1
     return kept

@@ -1,6 +1,7 @@
 """What the tests share: numbers as bits, built from the document's words and not by the package."""
 
 import decimal
+import struct
 
 LARGEST = 10 ** 16 - 1
 NAN = 8935141660703064064
@@ -120,9 +121,39 @@ def second_opinion_on_from_whole(n):
     return of_decimal(CONTEXT.create_decimal(n))
 
 
+def second_opinion_on_double(a):
+    value = as_decimal(a)
+    return 0x7FF8000000000000 if value.is_nan() else double_bits(float(value))
+
+
+def double_bits(value):
+    return struct.unpack(">Q", struct.pack(">d", value))[0]
+
+
+def second_opinion_on_total(numbers):
+    if len(numbers) > 1000:
+        return NAN
+    if not numbers:
+        return zero(0)
+    so_far = as_decimal(numbers[0])
+    for bits in numbers[1:]:
+        so_far = CONTEXT.add(so_far, as_decimal(bits))
+    return of_decimal(so_far)
+
+
 def is_list_of_one_int(answer):
     """True and False, which are ints of a kind, are not meant."""
     return type(answer) is list and len(answer) == 1 and type(answer[0]) is int
+
+
+class OnlyRead(list):
+    """A list that fails at any change."""
+
+    def refuse(self, *given):
+        raise AssertionError("what is handed in was changed")
+
+    append = extend = insert = pop = remove = clear = sort = reverse = refuse
+    __setitem__ = __delitem__ = __iadd__ = __imul__ = refuse
 
 
 def drawn(source, near=False):
