@@ -5,7 +5,9 @@ from sixteendigits.bits import bits_of, nan, number_of
 from sixteendigits.comparing import compared
 from sixteendigits.doubles import double_of
 from sixteendigits.placing import with_exponent
+from sixteendigits.reading import number_read
 from sixteendigits.wholes import number_of_whole, whole_part
+from sixteendigits.writing import text_of
 
 
 def op(op, a, b):
@@ -38,6 +40,15 @@ def double(a):
 
 def total(numbers):
     return [bits_of(added_up([number_of(bits) for bits in numbers]))]
+
+
+def write(a):
+    written = [ord(letter) for letter in text_of(number_of(a))]
+    return [len(written)] + written
+
+
+def read(the_bytes):
+    return [bits_of(number_read(the_bytes))]
 
 
 def computed(which, a, b):

@@ -51,6 +51,9 @@ def nearest(minus, coefficient, exponent):
 
 
 def without_digits(coefficient, drop):
+    # Less than a tenth of the last place is left; a power of ten for it might have a million digits.
+    if drop > digit_count(coefficient):
+        return 0
     return nearest_whole(coefficient, ten_to(drop))
 
 

@@ -1,6 +1,7 @@
 """What the tests share: numbers as bits, built from the document's words and not by the package."""
 
 import decimal
+import re
 import struct
 
 LARGEST = 10 ** 16 - 1
@@ -139,6 +140,30 @@ def second_opinion_on_total(numbers):
     for bits in numbers[1:]:
         so_far = CONTEXT.add(so_far, as_decimal(bits))
     return of_decimal(so_far)
+
+
+WRITTEN = re.compile(r"[+-]?(inf|([0-9]+\.?[0-9]*|\.[0-9]+)([Ee][+-]?[0-9]{1,6})?)")
+
+
+def second_opinion_on_write(a):
+    value = as_decimal(a)
+    if value.is_nan():
+        return "nan"
+    sign, digits, exponent = value.as_tuple()
+    if value.is_infinite():
+        return "-inf" if sign else "inf"
+    return f"{'-' * sign}{int(''.join(map(str, digits)))}E{exponent}"
+
+
+def second_opinion_on_read(text):
+    if len(text) > 400 or not WRITTEN.fullmatch(text):
+        return NAN
+    return of_decimal(CONTEXT.create_decimal(text))
+
+
+def bytes_of(text):
+    """A list of one byte for each sign; signs from 128 to 255 stand for these bytes."""
+    return list(text.encode("latin-1"))
 
 
 def is_list_of_one_int(answer):

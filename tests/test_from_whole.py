@@ -33,7 +33,7 @@ class Exact(FromWholeCase):
         for digits in range(1, 17):
             for n in (10 ** (digits - 1), 10 ** digits - 1, 1234567890123456 // 10 ** (16 - digits)):
                 self.check_both_signs(n, number(n))
-        for n in (10, 100, 120, 1000000, 9999999999999990, 9999999999999998, LARGEST, 2 ** 53 - 1, 2 ** 53, 2 ** 53 + 1):
+        for n in (10, 100, 120, 1000000, 9999999999999990, LARGEST - 1, LARGEST, 2 ** 53 - 1, 2 ** 53, 2 ** 53 + 1):
             self.check_both_signs(n, number(n))
 
     def test_longer_ones_with_the_exponent_nearest_to_0(self):

@@ -202,8 +202,9 @@ class SecondOpinion(PlacedCase):
 
 
 class GivenBack(unittest.TestCase):
-    CALLS = [(a, e) for a in (0, 1, 2 ** 64 - 1, zero(), zero(3, True), number(5), number(-25, -1), number(LARGEST, 369),
-                              INFINITY, MINUS_INFINITY, NAN) for e in (-2147483648, -398, -1, 0, 1, 369, 2147483647)]
+    CALLS = [(a, e) for a in (0, 1, 2 ** 64 - 1, zero(), zero(3, True), number(5), number(-25, -1),
+                              number(LARGEST, 369), INFINITY, MINUS_INFINITY, NAN)
+             for e in (-2147483648, -398, -1, 0, 1, 369, 2147483647)]
 
     def test_a_list_of_one_int(self):
         for a, e in self.CALLS:
